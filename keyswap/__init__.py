@@ -1,0 +1,1 @@
+"""Keyswap: houses swapped among their holders, in rings."""
