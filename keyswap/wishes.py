@@ -1,4 +1,19 @@
-"""What a holder's list of wishes means."""
+"""What a holder's list of wishes means, and which wishes are refused."""
+
+from keyswap.errors import NoHouse, Twice
+
+
+def refuse_wrong(wishes):
+    """Raises NoHouse where some list names a number that is no house, else Twice where some list names one twice."""
+    # The numbers of all lists come first: NoHouse goes ahead of a Twice in whichever list.
+    # The words name the holder alone, as a number of very many figures can't be written into a text.
+    for holder, told in enumerate(wishes):
+        for house in told:
+            if house < 0 or house >= len(wishes):
+                raise NoHouse(f"the list of holder {holder} names a number that is no house")
+    for holder, told in enumerate(wishes):
+        if len(set(told)) < len(told):
+            raise Twice(f"the list of holder {holder} names a house twice")
 
 
 def houses_for(wishes, holder):

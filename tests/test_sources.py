@@ -23,7 +23,7 @@ def nodes():
 class Sources(unittest.TestCase):
     def test_the_files_are_found(self):
         names = [path.name for path, text in sources()]
-        for name in ("__init__.py", "errors.py", "wishes.py"):
+        for name in ("__init__.py", "errors.py", "wishes.py", "rings.py", "groups.py"):
             self.assertIn(name, names)
 
     def test_imports_are_from_the_package_alone(self):

@@ -6,29 +6,11 @@ import itertools
 import unittest
 
 from keyswap.wishes import rather
-
-
-def lists_of(houses):
-    """Every list that names some of the houses, each once."""
-    return [list(some) for size in range(houses + 1) for some in itertools.permutations(range(houses), size)]
+from tests.oracle import lists_of, would_rather
 
 
 def wishes_with(houses, holder, told):
     return [told if k == holder else [] for k in range(houses)]
-
-
-def place(told, holder, house):
-    """How far behind a house comes by point 2, or None where it is not for the holder."""
-    full = told if holder in told else told + [holder]
-    if house not in full or full.index(house) > full.index(holder):
-        return None
-    return full.index(house)
-
-
-def expected(told, holder, one, other):
-    """Point 4, word by word."""
-    first, second = place(told, holder, one), place(told, holder, other)
-    return first is not None and (second is None or second > first)
 
 
 class RatherCase(unittest.TestCase):
@@ -179,7 +161,7 @@ class Many(RatherCase):
         wishes = wishes_with(count, holder, told)
         for one in range(count):
             for other in range(count):
-                self.assertIs(rather(wishes, holder, one, other), expected(told, holder, one, other))
+                self.assertIs(rather(wishes, holder, one, other), would_rather(told, holder, one, other))
 
     def test_a_hundred_holders(self):
         self.check_all_pairs(list(range(99, -1, -1)), 40, 100)
